@@ -765,16 +765,6 @@ func TestGreat(t *testing.T) {
 	}
 }
 
-// copied is a script that shares nothing with p.
-func copied(p api.Prog) api.Prog {
-	q := api.Prog{Mode: p.Mode, Top: slices.Clone(p.Top), Stmts: slices.Clone(p.Stmts)}
-	for i := range q.Stmts {
-		q.Stmts[i].L = slices.Clone(q.Stmts[i].L)
-		q.Stmts[i].M = slices.Clone(q.Stmts[i].M)
-	}
-	return q
-}
-
 // roomy is p with spare room behind each list's end, in which something stands.
 func roomy(p api.Prog) api.Prog {
 	places := func(l []int) []int { return append(slices.Clone(l), 0, 1)[:len(l)] }
@@ -788,12 +778,9 @@ func roomy(p api.Prog) api.Prog {
 
 // whole is p with its lists up to the ends of their room.
 func whole(p api.Prog) api.Prog {
-	q := copied(p)
-	q.Top = p.Top[:cap(p.Top)]
-	q.Stmts = slices.Clone(p.Stmts[:cap(p.Stmts)])
+	q := api.Prog{Mode: p.Mode, Top: p.Top[:cap(p.Top)], Stmts: slices.Clone(p.Stmts[:cap(p.Stmts)])}
 	for i, s := range p.Stmts {
-		q.Stmts[i].L = s.L[:cap(s.L)]
-		q.Stmts[i].M = s.M[:cap(s.M)]
+		q.Stmts[i].L, q.Stmts[i].M = s.L[:cap(s.L)], s.M[:cap(s.M)]
 	}
 	return q
 }
@@ -805,14 +792,13 @@ func TestKeepsWhatIsGiven(t *testing.T) {
 		if fault != 0 {
 			t.Fatal(src, fault)
 		}
+		given, twin := roomy(p), roomy(p) // ahead of each call, which may spoil p
 		want := code.Of(p)
-		given := roomy(p)
-		before := copied(whole(given))
 		for range 3 {
 			if got := code.Of(given); !slices.Equal(got, want) {
 				t.Errorf("%q with room: %v, want %v", src, got, want)
 			}
-			if !reflect.DeepEqual(whole(given), before) {
+			if !reflect.DeepEqual(whole(given), whole(twin)) {
 				t.Errorf("%q is changed", src)
 			}
 		}
